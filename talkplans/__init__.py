@@ -1,0 +1,1 @@
+"""Talkplans: two hands that talk by told plans."""
