@@ -1,11 +1,11 @@
 """Programs: whether they keep plans, what shows that they don't, and programs that do.
 
-To go along a program and a plan is to be at a pair (row, stop); it begins at (0, 0).
+A pair is one of a row and a stop.
 """
 
 from talkplans.errors import BadProgram
 from talkplans.plans import need_plan
-from talkplans.ways import are_ways, is_place, is_word, kind_of, ways_of
+from talkplans.ways import are_ways, choices_to, gone_along, is_place, is_word, kind_of, lacked
 
 MOST_ROWS = 240
 
@@ -45,7 +45,8 @@ def broken(program, plan):
     """Choices that show that the program doesn't keep the plan; None where it does."""
     need_program(program)
     need_plan(plan)
-    came, wrong = gone_along(program, plan)
+    came, wrong = gone_along(lambda pair: lets(plan[pair[1]], program[pair[0]]),
+                             lambda pair: steps(program, plan, pair))
     if wrong is not None:
         return choices_to(came, wrong)
     circling = never_out(program, list(came))
@@ -57,27 +58,6 @@ def broken(program, plan):
     return choices_to(came, circling[0]) + choices_round(program, circling)
 
 
-def gone_along(program, plan):
-    """The pairs come to, and the first one found whose row its stop doesn't let, or None.
-
-    For each pair stands the pair ahead of it with the choice made there (None where there was none
-    to make); for the first pair stands None. They are in the order in which they were come to.
-    """
-    came = {(0, 0): None}
-    pairs = [(0, 0)]
-    at = 0
-    while at < len(pairs):
-        pair = pairs[at]
-        if not lets(plan[pair[1]], program[pair[0]]):
-            return came, pair
-        for choice, behind in steps(program, plan, pair):
-            if behind not in came:
-                came[behind] = (pair, choice)
-                pairs.append(behind)
-        at += 1
-    return came, None
-
-
 def lets(stop, row):
     """Whether the row may be come to at the stop."""
     kind = row[0]
@@ -87,8 +67,7 @@ def lets(stop, row):
         return False
     if kind == "send":
         return row[1] in dict(stop[1])
-    rows = dict(ways_of(row))
-    return all(way[0] in rows for way in ways_of(stop))
+    return len(lacked(row, stop)) == 0
 
 
 def steps(program, plan, pair):
@@ -112,17 +91,6 @@ def steps_without_letter(program, pair):
     if row[0] == "jump":
         return [(None, (row[1], at))]
     return []
-
-
-def choices_to(came, pair):
-    """The choices by which one first came to the pair."""
-    choices = []
-    while came[pair] is not None:
-        pair, choice = came[pair]
-        if choice is not None:
-            choices.append(choice)
-    choices.reverse()
-    return choices
 
 
 def never_out(program, pairs):
@@ -201,3 +169,12 @@ def rows_for(stop, number, starts):
     # Behind the last word there is none to pass on to.
     del rows[-3]
     return rows
+
+
+def choices_for(stop, word):
+    """For the flips of a send's rows the choices by which this word is sent."""
+    words = [way[0] for way in stop[1]]
+    passed = words.index(word)
+    if passed == len(words) - 1:
+        return [1] * passed
+    return [1] * passed + [0]

@@ -1,6 +1,7 @@
-"""What plans and programs are both made of: words, and ways from words to places.
+"""Words, ways from words to places, and going along two things that have ways.
 
-A place is the number of a stop of a plan, or of a row of a program.
+A place is the number of a stop of a plan, or of a row of a program. Who goes along two things is
+at a pair, a place in the first one and a place in the second; this begins at (0, 0).
 """
 
 MOST_SIGNS = 8
@@ -54,3 +55,42 @@ def ways_of(stop):
     if stop[0] == "end":
         return ()
     return stop[1]
+
+
+def lacked(taker, sender):
+    """The words of the sender's ways, in order, that the taker's ways haven't."""
+    known = dict(ways_of(taker))
+    return [word for word, _ in ways_of(sender) if word not in known]
+
+
+def gone_along(holds, steps):
+    """The pairs come to, and the first one found for which holds(pair) is not true, or None.
+
+    steps(pair) is each (choice, pair behind it); the choice is None where there is none to make.
+    For each pair stands the pair ahead of it with the choice made there; for the first pair stands
+    None. They are in the order in which they were come to.
+    """
+    came = {(0, 0): None}
+    pairs = [(0, 0)]
+    at = 0
+    while at < len(pairs):
+        pair = pairs[at]
+        if not holds(pair):
+            return came, pair
+        for choice, behind in steps(pair):
+            if behind not in came:
+                came[behind] = (pair, choice)
+                pairs.append(behind)
+        at += 1
+    return came, None
+
+
+def choices_to(came, pair):
+    """The choices by which one first came to the pair."""
+    choices = []
+    while came[pair] is not None:
+        pair, choice = came[pair]
+        if choice is not None:
+            choices.append(choice)
+    choices.reverse()
+    return choices

@@ -136,6 +136,15 @@ def wrong_programs():
     return programs + [[("send", "a")], [("flip", 0)], [END, ("send", "a")], [END, ("flip", 0)], [END, ("flip", 1)]]
 
 
+def wrong_turns():
+    """What are no turns."""
+    numbers = [-1, -2, -(10 ** 5000), True, False, None, "", "0", "a", b"0", 0.0, 1.5, float("nan"), float("inf"), 1j,
+               (), (0,), [], [0], {}, Odd(), Odd, Number(0), object(), range(1)]
+    lists = [None, 0, 1, True, False, 1.5, "", "0", "turns", b"", b"\x00", (), (0, 1), {}, {0: 1}, {0}, range(2),
+             iter([0]), len, list, object(), List([0]), Odd(), Odd, Liar(), (turn for turn in [0])]
+    return lists + [turns for wrong in numbers for turns in ([wrong], [0, wrong], [wrong, 0], [0] * 2000 + [wrong, 0])]
+
+
 class List(list):
     """No list told by the document: it could answer as it likes."""
 
@@ -324,3 +333,72 @@ def words_sent(program, plan):
                 rows += [to for to in (doing[1],) if to not in rows]
             entries += [pair for pair in onward if pair not in entries]
     return sent
+
+
+def do_fit(one, other):
+    """The words of point 11."""
+    seen = [(0, 0)]
+    for at, there in seen:
+        kinds = (one[at][0], other[there][0])
+        mine, theirs = ways(one[at]), ways(other[there])
+        if kinds not in (("end", "end"), ("send", "get"), ("get", "send")):
+            return False
+        sent, taken = (mine, theirs) if kinds[0] == "send" else (theirs, mine)
+        for word in sent:
+            if word not in taken:
+                return False
+            if (mine[word], theirs[word]) not in seen:
+                seen.append((mine[word], theirs[word]))
+    return True
+
+
+def facing(dice, plan, words):
+    """A plan that fits this one: turned about, at some sends with fewer words, at some gets with more."""
+    told = []
+    for stop in plan:
+        if stop == END:
+            told.append(END)
+        elif stop[0] == "send":
+            more = made_ways(dice, len(plan), words)[:6 - len(stop[1])]
+            told.append(("get", tuple(sorted({**dict(more), **dict(stop[1])}.items()))))
+        else:
+            fewer = [way for way in stop[1] if dice.below(2)]
+            told.append(("send", tuple(fewer) or stop[1]))
+    return told
+
+
+def changed_plan(dice, plan, words):
+    """The plan with one stop that is another one."""
+    told = list(plan)
+    told[dice.below(len(plan))] = made_plan(dice, len(plan), words)[0]
+    return told
+
+
+def pairs_of_plans(seed, many, most=12):
+    """Plans beside plans of all sizes: wholly made ones, ones that fit, ones that fit but for one stop."""
+    dice = Dice(seed)
+    for at in range(many):
+        words = (["a"], ["a", "b"], WORDS)[at % 3]
+        plan = made_plan(dice, 1 + dice.below(most), words)
+        fitting = facing(dice, plan, words)
+        yield plan, made_plan(dice, 1 + dice.below(most), words)
+        yield plan, fitting
+        yield fitting, plan
+        yield plan, changed_plan(dice, fitting, words)
+        yield changed_plan(dice, fitting, words), plan
+        yield fitting, facing(dice, fitting, words)
+
+
+def drawn_turns(dice, many):
+    """Turns of many kinds: drawn ones, rising ones, the one hand's for long stretches, huge ones."""
+    kind = dice.below(5)
+    if kind == 0:
+        return list(range(many))
+    if kind == 1:
+        return [dice.below(4) for _ in range(many)]
+    if kind == 2:
+        return [2 * dice.below(2) + at // 60 % 2 for at in range(many)]
+    if kind == 3:
+        return [10 ** 40 + dice.below(1000) for _ in range(many)]
+    greedy = dice.below(2)
+    return [4 * dice.below(9) + dice.one_of([0, 1, 2, 3, greedy, greedy + 2, greedy, greedy + 2]) for _ in range(many)]
