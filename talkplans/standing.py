@@ -14,7 +14,7 @@ def partner(one, other):
     need_plan(one)
     need_plan(other)
     # Of the plans that fit the other one, none sends more words and none gets fewer than this one:
-    # whom it fits, each of them fits.
+    # if the first plan fits this one, it fits all of them.
     told = turned(other)
     if fits(one, told):
         return None
